@@ -1,0 +1,1 @@
+"""Slabwarren: a memory allocator for several processors."""

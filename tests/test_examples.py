@@ -1,0 +1,36 @@
+import doctest
+import unittest
+
+MEMORY = """
+>>> from slabwarren.memory import Memory
+>>> memory = Memory()
+>>> memory.swap(("a",), 0, 5), memory.swap(("a",), 0, 6), memory.read(("a",)), memory.accesses
+(True, False, 5, 3)
+"""
+
+LAYOUT = """
+>>> from slabwarren.layout import Layout
+>>> layout = Layout(3, [4, 1])
+>>> layout.objects(2, 0), layout.objects(2, 1), layout.page_of(9)
+([8, 9, 10, 11], [8], 2)
+"""
+
+
+class ExampleTest(unittest.TestCase):
+    """The examples of the document's interface, word for word."""
+
+    def check(self, text):
+        example = doctest.DocTestParser().get_doctest(text, {}, self.id(), None, 0)
+        results = doctest.DocTestRunner(verbose=False).run(example)
+        self.assertGreater(results.attempted, 0)
+        self.assertEqual(results.failed, 0)
+
+    def test_memory(self):
+        self.check(MEMORY)
+
+    def test_layout(self):
+        self.check(LAYOUT)
+
+
+if __name__ == "__main__":
+    unittest.main()
