@@ -15,6 +15,17 @@ LAYOUT = """
 ([8, 9, 10, 11], [8], 2)
 """
 
+STACKS = """
+>>> from slabwarren.memory import Memory
+>>> from slabwarren.stacks import Pop, Push, free_cell, items_of
+>>> memory = Memory()
+>>> push = Push(free_cell(0), 7)
+>>> for k in range(3):
+...     push.step(memory)
+>>> push.done, items_of(memory, free_cell(0)), memory.peek(free_cell(0))
+(True, [7], (8, 1))
+"""
+
 
 class ExampleTest(unittest.TestCase):
     """The examples of the document's interface, word for word."""
@@ -30,6 +41,9 @@ class ExampleTest(unittest.TestCase):
 
     def test_layout(self):
         self.check(LAYOUT)
+
+    def test_stacks(self):
+        self.check(STACKS)
 
 
 if __name__ == "__main__":
