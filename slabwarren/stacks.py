@@ -38,9 +38,14 @@ def change_head(memory, head, raw, top):
 def items_from(memory, head, top):
     """Return the items from a top (an item plus 1, or 0) on downwards, without an access."""
     found = []
-    while top > 0:
+    known = set()
+    while top > 0 and top not in known:
+        known.add(top)
         found.append(top - 1)
         top = memory.peek(next_cell(head, top - 1))
+    if top > 0:
+        # Only a stack that was changed by hand leads back to an item: it is told twice, and not without end.
+        found.append(top - 1)
     return found
 
 

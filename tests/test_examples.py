@@ -26,6 +26,15 @@ STACKS = """
 (True, [7], (8, 1))
 """
 
+WORLD = """
+>>> from slabwarren.world import World
+>>> world = World(2, [2], 1, 0)
+>>> for event in [("call", 0, "allocate", 0)] + [("step", 0)] * 5:
+...     world.do(event)
+>>> world.processors[0].held, world.processors[0].stores, world.memory.accesses
+([0], [[1]], 5)
+"""
+
 
 class ExampleTest(unittest.TestCase):
     """The examples of the document's interface, word for word."""
@@ -44,6 +53,9 @@ class ExampleTest(unittest.TestCase):
 
     def test_stacks(self):
         self.check(STACKS)
+
+    def test_world(self):
+        self.check(WORLD)
 
 
 if __name__ == "__main__":

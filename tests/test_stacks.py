@@ -60,6 +60,12 @@ class ItemsTest(unittest.TestCase):
         items_of(memory, HEAD).append(99)
         self.assertEqual(items_of(memory, HEAD), [4, 0])
 
+    def test_a_stack_that_leads_back_to_an_item_tells_it_twice(self):
+        for items, found in (([4], [4, 4]), ([4, 0, 9], [4, 0, 9, 0])):
+            memory = stack_of(items)
+            memory.set_up(below(items[-1]), found[-1] + 1)
+            self.assertEqual(items_of(memory, HEAD), found)
+
     def test_stacks_do_not_touch_each_other(self):
         memory = Memory()
         lay(memory, PAGES, [0, 1, 2])
